@@ -38,23 +38,34 @@ def make_trip(harvest, course, row):
     return fetched
 
 
-def coming_row(harvest, course, row):
-    """The cages to which the next trip goes, if all is brought in that order; none if nothing is left."""
-    coming = []
+def parted_by_zone(harvest, course, row):
+    """The cages of the row in which something is left, as rows of one zone, one behind another."""
+    parts = []
     for i in row:
         if course.left[i] > 0:
-            if len(coming) > 0 and harvest.cages[i].zone != harvest.cages[coming[0]].zone:
-                break
-            coming.append(i)
-    return coming
+            if len(parts) > 0 and harvest.cages[parts[-1][0]].zone == harvest.cages[i].zone:
+                parts[-1].append(i)
+            else:
+                parts.append([i])
+    return parts
 
 
-def bring_all(harvest, course, row):
-    """Moves the course to where all is brought in that order: of each trip its end, and how much it brings."""
-    ends = []
-    coming = coming_row(harvest, course, row)
-    while len(coming) > 0:
-        fetched = make_trip(harvest, course, coming)
-        ends.append((course.hour, fetched))
-        coming = coming_row(harvest, course, row)
-    return ends
+def bring_all(harvest, row):
+    """Of each trip its end, and how much it brings, if all were brought in that order, from now on."""
+    course = harvest.course.twin()
+    trips = []
+    for part in parted_by_zone(harvest, course, row):
+        # A trip passes over the cages that those before it emptied, so each may be one to the whole part.
+        to_bring = sum([course.left[i] for i in part])
+        while to_bring > 0:
+            fetched = make_trip(harvest, course, part)
+            trips.append((course.hour, fetched))
+            to_bring -= fetched
+    return trips
+
+
+def end_of(harvest, trips):
+    """The last trip's end; now, if there's none."""
+    if len(trips) == 0:
+        return harvest.course.hour
+    return trips[-1][0]

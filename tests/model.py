@@ -3,6 +3,8 @@
 It shares nothing with the program, so that a fault must be made twice to go unseen.
 """
 
+from itertools import permutations
+
 
 class Model:
     """An object, and each call by its name."""
@@ -22,7 +24,7 @@ class Model:
         self.is_begun = True
         self.well, self.speed, self.load, self.unload, self.wash = well, speed, load, unload, wash
         self.opens, self.closes = opens, closes
-        self.cages, self.orders, self.hour, self.zone = [], [], 0, "nowhere"
+        self.cages, self.orders, self.hour, self.zone, self.runs = [], [], 0, "nowhere", []
         return [0]
 
     def call_cage(self, at, zone, kg):
@@ -63,9 +65,7 @@ class Model:
         return hours
 
     def is_open(self, hour):
-        while hour >= 24:
-            hour -= 24
-        return self.opens <= hour < self.closes
+        return self.opens <= hour % 24 < self.closes
 
     def unloaded(self, hour, kg):
         to_go = self.hours(kg, self.unload)
@@ -134,6 +134,7 @@ class Model:
         for cage, kg in zip(self.cages, kgs):
             cage["kg"] = kg
         self.hour, self.zone = end, self.cages[row[0]]["zone"]
+        self.runs += [end, fetched]
         return [end, fetched]
 
     def call_bring(self, row):
@@ -151,3 +152,75 @@ class Model:
             zone = first_zone
             trips += [hour, fetched]
         return [hour, len(trips) // 2, *trips]
+
+    def fillings(self, trips):
+        """Of each order when it has all of its own, handed out from each trip in turn; else None."""
+        lacking = [kg for kg, due in self.orders]
+        when = [None] * len(lacking)
+        for end, kg in zip(trips[::2], trips[1::2]):
+            for turn in range(len(lacking)):
+                if when[turn] is None:
+                    given = min(kg, lacking[turn])
+                    kg -= given
+                    lacking[turn] -= given
+                    if lacking[turn] == 0:
+                        when[turn] = end
+        return when
+
+    def call_late(self, row):
+        if not self.is_row(row):
+            return [-22]
+        hours = 0
+        for (kg, due), end in zip(self.orders, self.fillings(self.runs + self.call_bring(row)[2:])):
+            if end is None:
+                hours += 1000
+            elif end > due:
+                hours += end - due
+        return [hours]
+
+    def orders_of_cages(self):
+        return [list(row) for row in permutations(i for i, cage in enumerate(self.cages) if cage["kg"])]
+
+    def call_soonest(self):
+        rows = self.orders_of_cages()
+        ends = [self.call_bring(row)[0] for row in rows]
+        return [min(ends), *rows[ends.index(min(ends))]]
+
+    def call_kept(self):
+        rows = self.orders_of_cages()
+        lates = [self.call_late(row)[0] for row in rows]
+        rows = [row for row, hours in zip(rows, lates) if hours == min(lates)]
+        ends = [self.call_bring(row)[0] for row in rows]
+        return [min(lates), *rows[ends.index(min(ends))]]
+
+    def call_washes(self, row):
+        if not self.is_row(row):
+            return [-22]
+        zones = [self.zone] if self.zone != "nowhere" else []
+        zones += [self.cages[i]["zone"] for i in row if self.cages[i]["kg"] > 0]
+        return [sum(before != behind for before, behind in zip(zones, zones[1:]))]
+
+    def call_by_when(self, kg, row):
+        if not self.is_row(row):
+            return [-22]
+        trips = self.runs + self.call_bring(row)[2:]
+        for place in range(0, len(trips), 2):
+            if sum(trips[1:place + 2:2]) >= kg:
+                return [trips[place]]
+        return [-33]
+
+    def call_brought(self):
+        return [len(self.runs) // 2, *self.runs]
+
+    def call_filled(self):
+        when = self.fillings(self.runs)
+        return [sum(end is not None for end in when), *[0 if end is None else end + 1 for end in when]]
+
+    def call_look(self, i):
+        if i not in range(len(self.cages)):
+            return [-2]
+        return [self.cages[i]["kg"], self.cages[i]["at"], self.cages[i]["zone"]]
+
+    def call_state(self):
+        zone = 0 if self.zone == "nowhere" else self.zone + 1
+        return [self.hour, len(self.cages), len(self.orders), zone, sum(self.runs[1::2])]

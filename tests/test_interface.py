@@ -10,6 +10,8 @@ from tests.asking import MOST, ask, begin, flat, last
 LINE = [
     begin(), ("cage", 25, 0, 1500), ("cage", 0, 1, 200), ("fish", 1, 300), ("order", 500, 40), ("wait", 3),
     ("far", 0, 1), ("unloads", 5, 100), ("trip", [0]), ("run", [0]), ("bring", [1, 0]), ("bring", []), ("trip", []),
+    ("soonest",), ("late", [0, 1]), ("late", []), ("kept",), ("washes", [1, 0]), ("by_when", 1200, [0, 1]),
+    ("by_when", MOST, []), ("brought",), ("filled",), ("look", 0), ("look", 2), ("state",),
 ]
 
 OTHERS = [
@@ -33,6 +35,29 @@ class TheLists(unittest.TestCase):
         self.assertEqual(answers(numbers), [
             1, 0, 1, 0, 1, 1, 4, 58, 1000, 500, 200, 8, 106, 3, 58, 1000, 85, 500, 106, 200, 2, 58, 1000, 1, -22,
         ])
+
+    def test_each_answer_of_the_calls_that_only_ask(self):
+        numbers = [
+            0, 1000, 10, 100, 100, 5, 8, 16, 1, 25, 0, 1500, 1, 0, 1, 200, 3, 1200, 60, 3, 600, 9, 8, 1, 0,
+            10, 11, 2, 1, 0, 11, 0, 12, 13, 2, 1, 0, 13, 0, 14, 1500, 2, 0, 1, 14, 0, 0, 14, 9, 1, 2, 15, 16, 17, 1,
+            17, 2, 18,
+        ]
+        # Behind the run till 58: by 0 1 500 till 85, 200 till 106; by 1 0 washed twice, 200 till 82, 500 till 109.
+        self.assertEqual(answers(numbers), [
+            1, 0, 1, 0, 1, 1, 1, 0, 1, 1, 2, 58, 1000,
+            3, 106, 0, 1, 1, 22 + 1000, 1, 2000, 3, 22 + 1000, 1, 0, 1, 2, 1, 0, 1, 85, 1, 58, 1, -22,
+            3, 1, 58, 1000, 3, 0, 0, 0, 3, 200, 0, 1, 1, -2, 5, 58, 2, 2, 1, 1000,
+        ])
+
+    def test_just_the_counts_that_are_told(self):
+        line = [begin(), *[("cage", 5 * i, i % 4, 900 * i) for i in range(5)], *[("order", 700, 90)] * 3, ("run", [4])]
+        told = ask(*line, ("soonest",), ("late", [1]), ("kept",), ("washes", [1]), ("by_when", 5, [1]), ("brought",),
+                   ("filled",), ("look", 3), ("state",), ("trip", [4]), ("run", [4]), ("bring", [1, 2]), ("far", 0, 1))
+        self.assertEqual([len(answer) for answer in told[len(line):]], [5, 1, 5, 1, 1, 3, 4, 3, 5, 7, 2, 8, 3])
+
+    def test_no_number_but_a_refusal_is_below_nought(self):
+        for answer in ask(*LINE):
+            self.assertTrue(len(answer) == 1 or min(answer) >= 0)
 
     def test_whole_numbers_are_given_back(self):
         told = answers(flat(*LINE))
@@ -81,6 +106,16 @@ class TheLists(unittest.TestCase):
     def test_a_row_of_eight_and_an_empty_one_are_read_to_their_end(self):
         told = ask(begin(), ("bring", [9, 9, 9, 9, 9, 9, 9, 9]), ("bring", []), ("wait", 7))
         self.assertEqual(told, [[0], [-22], [0, 0], [7]])
+        for call, answer in [(("late",), 0), (("washes",), 0), (("by_when", 3), -33)]:
+            with self.subTest(call=call):
+                told = ask(begin(), (*call, [9, 9, 9, 9, 9, 9, 9, 9]), (*call, []), ("wait", 7))
+                self.assertEqual(told, [[0], [-22], [answer], [7]])
+
+    def test_the_longest_list(self):
+        line = [("by_when", MOST, [MOST] * 8)] * 100
+        self.assertEqual(len(flat(*line)), 1100)
+        self.assertEqual(ask(*line), [[-61]] * 100)
+        self.assertEqual(ask(begin(), *line[1:]), [[0]] + [[-22]] * 99)
 
 
 class NotBegun(unittest.TestCase):

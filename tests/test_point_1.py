@@ -7,50 +7,6 @@ from tests.asking import MOST, ask, begin, last
 FIVE_CAGES = [("cage", 10 * i, 0, 100 + i) for i in range(5)]
 FIVE_ORDERS = [("order", 10 + i, i) for i in range(5)]
 
-# They show the hour, the cages, what is left in them, how many orders there are, the last zone, and the boat.
-PROBES = [
-    ("unloads", 0, 150), ("far", 0, 1), ("trip", [0]), ("trip", [1]), ("bring", [0, 1]), ("bring", [1, 0]),
-    ("order", 1, 1), ("cage", 5, 0, 7), ("bring", [2, 1, 0]), ("wait", 1),
-]
-BUSY = [
-    begin(), ("cage", 30, 0, 1200), ("cage", 7, 1, 300), ("order", 50, 5), ("wait", 9), ("run", [0]),
-]
-
-
-class ChangesNothing(unittest.TestCase):
-    def assert_changes_nothing(self, refused, number):
-        plain = ask(*BUSY, *PROBES)
-        told = ask(*BUSY, refused, *PROBES)
-        self.assertEqual(told[len(BUSY)], [number])
-        self.assertEqual(told[:len(BUSY)] + told[len(BUSY) + 1:], plain)
-
-    def test_each_refusal_changes_nothing(self):
-        for refused, number in [
-            (begin(well=999), -22), (begin(closes=25), -22), (("cage", 501, 0, 1), -22), (("cage", 1, 4, 1), -22),
-            (("cage", 1, 0, 20001), -22), (("fish", 2, 1), -2), (("fish", 0, 20001), -22), (("order", 0, 1), -22),
-            (("order", 1, 10000), -22), (("wait", 0), -22), (("wait", 501), -22), (("far", 0, 2), -2),
-            (("unloads", 100000, 1), -22), (("unloads", 1, 100000), -22),
-            (("trip", []), -22), (("trip", [2]), -22), (("trip", [0, 1]), -33),
-            (("run", []), -22), (("run", [0, 0]), -22), (("run", [0, 1]), -33), (("run", [1, 0]), -33),
-            (("bring", [0, 0]), -22), (("bring", [0, 2]), -22),
-        ]:
-            with self.subTest(refused=refused):
-                self.assert_changes_nothing(refused, number)
-
-    def test_nothing_fetched_changes_nothing(self):
-        emptied = [*BUSY, ("fish", 1, 0)]
-        plain = ask(*emptied, ("trip", [0]), ("wait", 1))
-        told = ask(*emptied, ("run", [1]), ("trip", [0]), ("wait", 1))
-        self.assertEqual(told[len(emptied)], [-6])
-        self.assertEqual(told[-2:], plain[-2:])
-
-    def test_a_sixth_changes_nothing(self):
-        line = [begin(), *FIVE_CAGES, *FIVE_ORDERS]
-        told = ask(*line, ("cage", 1, 0, 1), ("order", 1, 1), ("bring", [4, 3, 2, 1, 0]), ("fish", 5, 1))
-        self.assertEqual(told[-4:-2], [[-28], [-28]])
-        self.assertEqual(told[-2], last(*line, ("bring", [4, 3, 2, 1, 0])))
-        self.assertEqual(told[-1], [-2])
-
 
 class Begin(unittest.TestCase):
     def test_each_number_at_both_sides_of_its_edges(self):
